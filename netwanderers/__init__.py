@@ -1,0 +1,1 @@
+"""Wanderers on nets of places without names."""
