@@ -4,12 +4,21 @@ What answers a call is given the object and the list of the call's arguments, it
 one, as the last. It gives back the numbers that are answered; a refusal is its number alone.
 """
 
-from netwanderers.places import came_in, classes_of, is_linked, steps_apart, walked
+from netwanderers.meeting import meeting, meeting_word, nearest
+from netwanderers.pebbles import naming, pebble_word
+from netwanderers.places import came_in, classes_of, distances_from, hangs_together, is_linked, most_exits
+from netwanderers.places import steps_apart, walked
+from netwanderers.swallowing import all_but, all_together, at_worst, best_order, steps_known
 from netwanderers.wanderers import Wanderers, set_out, stepped, with_pebble
 
 MOST_PLACES = 7
 MOST_LINKS = 10
 MOST_LETTERS = 30
+MOST_LATER = 20
+MOST_LATER_FOUND = 2
+MOST_EXITS_FOUND = 4
+MOST_PLACES_LOOKED = 6
+MOST_PLACES_PEBBLE = 5
 
 NOT_THERE = -2
 NONE_SUCH = -6
@@ -17,7 +26,9 @@ ALREADY = -17
 WRONG = -22
 FULL = -28
 NOT_SO = -33
+NOT_TOGETHER = -35
 NOT_BEGUN = -61
+TOO_MUCH = -75
 
 
 def begin(wanderers, given):
@@ -128,51 +139,137 @@ def classes(wanderers, given):
     return [wanderers.now.size] + classes_of(wanderers.now.ways)
 
 
-def unanswered(wanderers, given):
-    # A call that isn't written yet answers no numbers, so that none can be taken for its answer.
-    return []
+def distance(wanderers, given):
+    steps = distances_from(wanderers.now.ways, given[0])[given[1]]
+    if steps is None:
+        return [NOT_SO]
+    return [steps]
+
+
+def near(wanderers, given):
+    ways = wanderers.now.ways
+    if steps_apart(ways, given[0], given[1]) is not None:
+        return [NOT_SO]
+    best = nearest(ways, given[0], given[1])
+    return [best[0], len(best[1])] + best[1]
+
+
+def meets(wanderers, given):
+    now = wanderers.now
+    later = given[0]
+    word = given[1]
+    if len(word) > MOST_LETTERS or later > MOST_LATER:
+        return [WRONG]
+    met = meeting(now.ways, now.a, now.b, later, word)
+    if met is None:
+        return [NOT_SO]
+    return list(met)
+
+
+def can(wanderers, given):
+    now = wanderers.now
+    if steps_apart(now.ways, now.a, now.b) is not None:
+        return [1]
+    return [1 if nearest(now.ways, now.a, now.b)[0] <= given[0] else 0]
+
+
+def found(wanderers, given):
+    now = wanderers.now
+    if given[0] > MOST_LATER_FOUND or most_exits(now.ways) > MOST_EXITS_FOUND:
+        return [TOO_MUCH]
+    word = meeting_word(now.ways, now.a, now.b, given[0])
+    if word is None:
+        return [NOT_SO]
+    return [len(word)] + word
+
+
+def soonest(wanderers, given):
+    now = wanderers.now
+    if now.size > MOST_PLACES_LOOKED:
+        return [TOO_MUCH]
+    best = best_order(now.ways, given[0], at_worst)
+    return [best[0]] + best[1]
+
+
+def mean(wanderers, given):
+    now = wanderers.now
+    if now.size > MOST_PLACES_LOOKED:
+        return [TOO_MUCH]
+    best = best_order(now.ways, given[0], all_together)
+    return [best[0]] + best[1]
+
+
+def known(wanderers, given):
+    now = wanderers.now
+    order = given[1]
+    if sorted(order) != all_but(now.size, given[0]):
+        return [WRONG]
+    steps = steps_known(now.ways, given[0], order)
+    if steps is None:
+        return [NOT_SO]
+    return [len(steps)] + steps
+
+
+def pebble(wanderers, given):
+    now = wanderers.now
+    if now.size > MOST_PLACES_PEBBLE:
+        return [TOO_MUCH]
+    word = pebble_word(now.ways, given[0], given[1])
+    if word is None:
+        return [NONE_SUCH]
+    return [len(word)] + word
+
+
+def same(wanderers, given):
+    names = naming(wanderers.now.ways, given[0], given[1])
+    if names is None:
+        return [NOT_SO]
+    return [len(names)] + names
+
+
+def count(wanderers, given):
+    return [wanderers.now.steps, wanderers.now.met]
+
+
+def state(wanderers, given):
+    now = wanderers.now
+    lies = 0 if now.pebble is None else now.pebble + 1
+    together = 1 if hangs_together(now.ways) else 0
+    answer = [now.size, now.a, now.b, lies, together, len(wanderers.past), len(now.links)]
+    for u, v in now.links:
+        answer.extend([u, v])
+    return answer
 
 
 # Of each call, by its number: what answers it, how many whole numbers it has, how many of these,
-# from the first on, have to be places, and how many rows stand behind them.
+# from the first on, have to be places, how many rows stand behind them, and whether the net has to
+# hang together.
 CALLS = (
-    (begin, 1, 0, 0),
-    (link, 2, 2, 0),
-    (unlink, 1, 0, 0),
-    (stand, 2, 2, 0),
-    (step, 2, 0, 0),
-    (put, 0, 0, 0),
-    (take, 0, 0, 0),
-    (back, 0, 0, 0),
-    (looks, 1, 0, 0),
-    (exits, 1, 1, 0),
-    (walk, 1, 1, 1),
-    (apart, 2, 2, 0),
-    (classes, 0, 0, 0),
-    # distance
-    (unanswered, 2, 2, 0),
-    # near
-    (unanswered, 2, 2, 0),
-    # meets
-    (unanswered, 1, 0, 1),
-    # can
-    (unanswered, 1, 0, 0),
-    # found
-    (unanswered, 1, 0, 0),
-    # soonest
-    (unanswered, 1, 1, 0),
-    # mean
-    (unanswered, 1, 1, 0),
-    # known
-    (unanswered, 1, 1, 1),
-    # pebble
-    (unanswered, 2, 2, 0),
-    # same
-    (unanswered, 2, 2, 0),
-    # count
-    (unanswered, 0, 0, 0),
-    # state
-    (unanswered, 0, 0, 0),
+    (begin, 1, 0, 0, False),
+    (link, 2, 2, 0, False),
+    (unlink, 1, 0, 0, False),
+    (stand, 2, 2, 0, False),
+    (step, 2, 0, 0, False),
+    (put, 0, 0, 0, False),
+    (take, 0, 0, 0, False),
+    (back, 0, 0, 0, False),
+    (looks, 1, 0, 0, False),
+    (exits, 1, 1, 0, False),
+    (walk, 1, 1, 1, False),
+    (apart, 2, 2, 0, False),
+    (classes, 0, 0, 0, False),
+    (distance, 2, 2, 0, False),
+    (near, 2, 2, 0, True),
+    (meets, 1, 0, 1, False),
+    (can, 1, 0, 0, True),
+    (found, 1, 0, 0, True),
+    (soonest, 1, 1, 0, True),
+    (mean, 1, 1, 0, True),
+    (known, 1, 1, 1, False),
+    (pebble, 2, 2, 0, False),
+    (same, 2, 2, 0, True),
+    (count, 0, 0, 0, False),
+    (state, 0, 0, 0, False),
 )
 BEGIN = 0
 
@@ -204,6 +301,8 @@ def answer_of(wanderers, number, given):
             return [NOT_BEGUN]
         if any([place >= wanderers.now.size for place in given[:call[2]]]):
             return [NOT_THERE]
+        if call[4] and not hangs_together(wanderers.now.ways):
+            return [NOT_TOGETHER]
     answer = call[0]
     return answer(wanderers, given)
 

@@ -49,6 +49,38 @@ def walked(ways, start, word):
     return places
 
 
+def most_exits(ways):
+    """The most exits that a place has."""
+    return max([len(row) for row in ways])
+
+
+def distances_among(ways, among, start):
+    """Of each place how few steps lead to it from the start by those places; None, if none do."""
+    far = [None for row in ways]
+    far[start] = 0
+    line = [start]
+    at = 0
+    while at < len(line):
+        here = line[at]
+        for place, entry in ways[here]:
+            if far[place] is None and place in among:
+                far[place] = far[here] + 1
+                line.append(place)
+        at = at + 1
+    return far
+
+
+def distances_from(ways, start):
+    """Of each place how few steps lead to it from the start; None, if none do."""
+    return distances_among(ways, list(range(len(ways))), start)
+
+
+def hangs_together(ways):
+    """Whether from each place one comes to each."""
+    # Each link is gone both ways, so from all of them one comes to place 0 if from there to all.
+    return None not in distances_from(ways, 0)
+
+
 def least_like(marks):
     """Of each place the least place with the same mark."""
     return [marks.index(mark) for mark in marks]

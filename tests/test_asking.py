@@ -1,54 +1,9 @@
-"""Promises 2 and 3, as far as looks, exits, walk, apart and classes go."""
+"""Promises 2 and 3, as far as looks, exits, walk, apart and classes go: the net, and what's seen on the way."""
 
 import itertools
 import unittest
 
-from tests.helper import FULL, ask, last, net, ring
-
-HUGE = 4294967295
-
-
-def exits_by_hand(size, links):
-    """Of each place where its exits lead and by which exit one comes in, looked up link by link."""
-    own = [[link for link in links if place in link] for place in range(size)]
-    rows = []
-    for place in range(size):
-        row = []
-        for link in own[place]:
-            other = link[1] if link[0] == place else link[0]
-            row.append((other, own[other].index(link)))
-        rows.append(row)
-    return rows
-
-
-def seen(rows, place, word):
-    """What's seen by a word from a place."""
-    sights = [len(rows[place])]
-    for letter in word:
-        entry = 0
-        if letter > 0 and letter <= len(rows[place]):
-            place, came_by = rows[place][letter - 1]
-            entry = came_by + 1
-        sights.extend([entry, len(rows[place])])
-    return sights
-
-
-def apart_by_hand(rows, u, v):
-    """In how few steps two places are told apart, word by word; -6, if by none of as many letters as places."""
-    letters = range(max(len(row) for row in rows) + 2)
-    for length in range(len(rows) + 1):
-        for word in itertools.product(letters, repeat=length):
-            if seen(rows, u, word) != seen(rows, v, word):
-                return length
-    return -6
-
-
-def nets_of(size, most_links):
-    """All rows of links, in any order, of so many places."""
-    pairs = list(itertools.combinations(range(size), 2))
-    for many in range(min(most_links, len(pairs)) + 1):
-        for links in itertools.permutations(pairs, many):
-            yield list(links)
+from tests.helper import FULL, HUGE, apart_by_hand, ask, exits_by_hand, last, net, nets_of, ring
 
 
 class Looks(unittest.TestCase):

@@ -2,14 +2,7 @@
 
 import unittest
 
-from tests.helper import FULL, LATER, ask, last, net
-
-HUGE = 4294967295
-
-ALL_BUT_BEGIN = [
-    ("link", 0, 1), ("unlink", 0), ("stand", 0, 0), ("step", 0, 0), ("put",), ("take",), ("back",), ("looks", 0),
-    ("exits", 0), ("walk", 0, [1]), ("apart", 0, 0), ("classes",),
-] + LATER
+from tests.helper import ALL_BUT_BEGIN, FULL, HUGE, ask, last, net
 
 
 class NotBegun(unittest.TestCase):
@@ -24,7 +17,8 @@ class NotBegun(unittest.TestCase):
     def test_it_is_told_ahead_of_all_other_refusals(self):
         calls = [
             ("link", 9, 9), ("unlink", 9), ("stand", 9, 9), ("looks", 9), ("exits", 9), ("walk", 9, [0] * 31),
-            ("apart", 9, 9), ("take",), ("back",), ("distance", 9, 9), ("soonest", 9),
+            ("apart", 9, 9), ("take",), ("back",), ("distance", 9, 9), ("near", 9, 9), ("meets", 21, [0] * 31),
+            ("found", 3), ("soonest", 9), ("mean", 9), ("known", 9, [9]), ("pebble", 9, 9), ("same", 9, 9),
         ]
         self.assertEqual(ask(calls), [[-61]] * len(calls))
 
@@ -36,7 +30,11 @@ class NoSuchPlace(unittest.TestCase):
                 calls = [
                     ("link", there_is_none, 0), ("link", 0, there_is_none), ("stand", there_is_none, 0),
                     ("stand", 0, there_is_none), ("exits", there_is_none), ("walk", there_is_none, []),
-                    ("apart", there_is_none, 0), ("apart", 0, there_is_none),
+                    ("apart", there_is_none, 0), ("apart", 0, there_is_none), ("distance", there_is_none, 0),
+                    ("distance", 0, there_is_none), ("near", there_is_none, 0), ("near", 0, there_is_none),
+                    ("soonest", there_is_none), ("mean", there_is_none), ("known", there_is_none, []),
+                    ("pebble", there_is_none, 0), ("pebble", 0, there_is_none), ("same", there_is_none, 0),
+                    ("same", 0, there_is_none),
                 ]
                 rows = ask([("begin", size)] + calls)
                 self.assertEqual(rows, [[0]] + [[-2]] * len(calls))
@@ -46,6 +44,12 @@ class NoSuchPlace(unittest.TestCase):
         self.assertEqual(last(FULL + [("link", 0, 7)]), [-2])
         self.assertEqual(last([("begin", 3), ("walk", 3, [0] * 31)]), [-2])
         self.assertEqual(last([("begin", 3), ("apart", 3, 3)]), [-2])
+        # Seven places that don't hang together: -35, -75 and more would be due.
+        calls = [
+            ("near", 7, 7), ("soonest", 7), ("mean", 7), ("known", 7, [7, 7]), ("pebble", 0, 7), ("same", 7, 0),
+            ("distance", 0, 7),
+        ]
+        self.assertEqual(ask([("begin", 7)] + calls), [[0]] + [[-2]] * len(calls))
 
     def test_the_last_place_is_there(self):
         calls = [("begin", 7), ("link", 6, 0), ("stand", 6, 6), ("exits", 6), ("walk", 6, []), ("apart", 6, 6)]
@@ -249,7 +253,9 @@ class Back(unittest.TestCase):
         idle = [
             ("begin", 0), ("begin", 8), ("link", 0, 1), ("link", 2, 2), ("link", 0, 3), ("unlink", 1), ("stand", 3, 0),
             ("take",), ("looks", 0), ("looks", 2), ("exits", 0), ("exits", 3), ("walk", 0, [1, 1]),
-            ("walk", 0, [1] * 31), ("apart", 0, 2), ("apart", 0, 3), ("classes",),
+            ("walk", 0, [1] * 31), ("apart", 0, 2), ("apart", 0, 3), ("classes",), ("distance", 0, 1), ("near", 0, 1),
+            ("meets", 2, [1, 1]), ("can", 1), ("found", 1), ("soonest", 0), ("mean", 0), ("known", 0, [1, 2]),
+            ("pebble", 0, 2), ("same", 0, 1), ("count",), ("state",),
         ]
         calls = net(3, [(0, 1)]) + [("stand", 1, 2)] + idle + [("back",), ("looks", 0), ("back",), ("back",)]
         self.assertEqual(ask(calls)[len(idle) + 3:], [[1], [1, 0, 1], [0], [-6]])

@@ -4,7 +4,7 @@ import random
 import unittest
 
 from netwanderers.nets import answers
-from tests.helper import LATER, ask, net, numbers_of, split
+from tests.helper import ALL_BUT_BEGIN, FULL, HUGE, ask, net, numbers_of, random_calls, ring, split
 
 
 class Sealed(list):
@@ -17,28 +17,6 @@ class Sealed(list):
     __setitem__ = __delitem__ = __iadd__ = __imul__ = refuse
 
 
-def random_calls(source, many):
-    """Calls of this stage, some of them refused."""
-    calls = [("begin", source.randrange(1, 8))]
-    while len(calls) < many:
-        name = source.choice(["link"] * 8 + ["step"] * 6 + [
-            "begin", "unlink", "stand", "put", "take", "back", "looks", "exits", "walk", "apart", "classes",
-        ])
-        if name in ("link", "stand", "apart"):
-            calls.append((name, source.randrange(8), source.randrange(8)))
-        elif name == "step":
-            calls.append((name, source.randrange(5), source.randrange(5)))
-        elif name == "walk":
-            calls.append((name, source.randrange(8), [source.randrange(5) for letter in range(source.randrange(41))]))
-        elif name == "looks":
-            calls.append((name, source.randrange(3)))
-        elif name in ("begin", "unlink", "exits"):
-            calls.append((name, source.randrange(9)))
-        else:
-            calls.append((name,))
-    return calls
-
-
 class Form(unittest.TestCase):
     def test_each_answer_has_its_count_ahead(self):
         # begin 3; link 0 1; link 1 2; link 1 1; exits 1; walk 0 by 1, 2; step 1 0; looks 0; apart 0 2; classes; back
@@ -48,15 +26,33 @@ class Form(unittest.TestCase):
             4, 3, 0, 1, 2, 1, 2,
         ])
 
-    def test_the_numbers_of_the_other_calls(self):
+    def test_the_numbers_of_the_calls_that_change(self):
         # begin 2; link 0 1; stand 1 1; put; put; take; take; unlink 0
         self.assertEqual(answers([0, 2, 1, 0, 1, 3, 1, 1, 5, 5, 6, 6, 2, 0]), [
             1, 0, 1, 0, 1, 0, 1, 0, 1, -17, 1, 0, 1, -17, 1, 0,
         ])
 
+    def test_the_numbers_of_the_calls_that_ask(self):
+        # A row of four that is the same from both ends; stand 0 3; then the calls from 13 to 24.
+        laid = [0, 4, 1, 1, 2, 1, 0, 1, 1, 2, 3, 3, 0, 3]
+        self.assertEqual(answers(laid)[-2:], [1, 0])
+        asked = [
+            ([13, 0, 3], [3]), ([14, 0, 3], [1, 1, 1]), ([15, 3, 3, 1, 1, 2], [3, 3]), ([15, 0, 0], [-33]),
+            ([16, 1], [1]), ([16, 0], [0]), ([17, 1], [2, 1, 1]), ([17, 0], [-33]), ([18, 0], [5, 1, 2, 3]),
+            ([19, 0], [12, 1, 2, 3]), ([20, 0, 3, 1, 2, 3], [3, 2, 5, 5]), ([20, 0, 0], [-22]), ([21, 0, 1], [0]),
+            ([21, 0, 3], [-6]), ([22, 0, 3], [4, 3, 2, 1, 0]), ([23], [0, 0]),
+            ([24], [4, 0, 3, 0, 1, 4, 3, 1, 2, 0, 1, 2, 3]),
+        ]
+        calls, expected = list(laid), []
+        for call, answer in asked:
+            calls.extend(call)
+            expected.extend([len(answer)] + answer)
+        self.assertEqual(answers(calls)[len(answers(laid)):], expected)
+
     def test_one_call(self):
         self.assertEqual(answers([0, 7]), [1, 0])
         self.assertEqual(answers([12]), [1, -61])
+        self.assertEqual(answers([24]), [1, -61])
         self.assertEqual(answers([10, 0, 0]), [1, -61])
 
     def test_a_refused_call_is_read_to_its_end(self):
@@ -64,38 +60,81 @@ class Form(unittest.TestCase):
         self.assertEqual(ask([("begin", 2), ("walk", 2, [0, 1]), ("walk", 0, [12] * 31), ("classes",)]), [
             [0], [-2], [-22], [2, 0, 0],
         ])
+        self.assertEqual(ask([("begin", 2), ("meets", 21, [7] * 40), ("known", 2, [0] * 12), ("count",)]), [
+            [0], [-22], [-2], [0, 0],
+        ])
 
-    def test_calls_of_the_next_stage_are_read_by_their_arguments(self):
-        for call in LATER:
-            rows = ask([call, ("begin", 2), ("link", 0, 1), call, ("step", 1, 0), call, ("back",), ("back",), ("back",)])
-            self.assertEqual(rows[:3] + [rows[4]] + rows[6:], [
-                [-61], [0], [0], [0, 1, 1, 0, 1], [1], [0], [-6],
+    def test_each_call_is_read_by_its_arguments(self):
+        for call in ALL_BUT_BEGIN:
+            rows = ask([call, ("begin", 2), ("link", 0, 1), call, ("begin", 1), call, ("begin", 1), ("state",)])
+            self.assertEqual([rows[0], rows[1], rows[2], rows[4], rows[6], rows[7]], [
+                [-61], [0], [0], [0], [0], [1, 0, 0, 0, 1, 0, 0],
             ], call)
 
-    def test_calls_of_the_next_stage_know_their_places(self):
+    def test_the_greatest_numbers(self):
         calls = [
-            ("distance", 2, 0), ("distance", 0, 2), ("near", 0, 2), ("soonest", 2), ("mean", 2), ("known", 2, [0, 1]),
-            ("pebble", 0, 2), ("same", 2, 0),
+            ("link", HUGE, HUGE), ("unlink", HUGE), ("stand", HUGE, HUGE), ("looks", HUGE), ("exits", HUGE),
+            ("walk", HUGE, [HUGE]), ("apart", HUGE, HUGE), ("distance", HUGE, HUGE), ("near", HUGE, HUGE),
+            ("soonest", HUGE), ("mean", HUGE), ("known", HUGE, [HUGE]), ("pebble", HUGE, HUGE), ("same", HUGE, HUGE),
         ]
-        self.assertEqual(ask([("begin", 2)] + calls), [[0]] + [[-2]] * len(calls))
-
-    def test_three_hundred_calls(self):
-        told = ask([("begin", 2), ("link", 0, 1)] + [("walk", 0, [1] * 40), ("step", 1, 1)] * 149)
-        self.assertEqual(told[2:], [[-22], [1, 1, 1, 1, 1]] * 149)
+        self.assertEqual(ask([("begin", 1)] + calls), [[0]] + [[-2]] * len(calls))
+        calls = [("step", HUGE, HUGE), ("meets", HUGE, [HUGE]), ("can", HUGE), ("found", HUGE), ("known", 0, [HUGE])]
+        self.assertEqual(ask([("begin", 1)] + calls), [[0], [1, 0, 0, 0, 0], [-22], [1], [-75], [-22]])
 
     def test_only_whole_numbers_are_given_back(self):
         source = random.Random(4)
-        for row in range(50):
+        for row in range(100):
             told = answers(numbers_of(random_calls(source, 60)))
             self.assertIs(type(told), list)
             self.assertEqual(set(type(number) for number in told), {int})
 
     def test_only_refusals_are_below_0(self):
         source = random.Random(5)
-        for row in range(50):
+        refusals = [[-2], [-6], [-17], [-22], [-28], [-33], [-35], [-61], [-75]]
+        for row in range(100):
             for told in split(answers(numbers_of(random_calls(source, 60)))):
-                self.assertTrue(told[0] >= 0 or told in ([-2], [-6], [-17], [-22], [-28], [-33], [-61]), told)
+                self.assertTrue(told[0] >= 0 or told in refusals, told)
                 self.assertTrue(all(number >= 0 for number in told[1:]), told)
+
+
+class Great(unittest.TestCase):
+    """Three hundred calls on the greatest nets."""
+
+    def check(self, laid, call, answer):
+        rows = ask(laid + [call] * (300 - len(laid)))
+        self.assertEqual(rows[len(laid):], [answer] * (300 - len(laid)), call)
+
+    def test_words(self):
+        told = ask([("begin", 2), ("link", 0, 1)] + [("walk", 0, [1] * 40), ("step", 1, 1)] * 149)
+        self.assertEqual(told[2:], [[-22], [1, 1, 1, 1, 1]] * 149)
+        self.check(FULL + [("stand", 6, 5)], ("meets", 20, [0] * 30), [-33])
+        self.check(FULL, ("known", 0, [1, 2, 3, 4, 5, 6]), [6, 2, 4, 6, 8, 10, 10])
+
+    def test_seven_places(self):
+        self.check(FULL, ("near", 3, 3), [0, 0])
+        self.check(FULL, ("distance", 6, 5), [2])
+        self.check(FULL, ("same", 3, 3), [7, 0, 1, 2, 3, 4, 5, 6])
+        self.check(FULL, ("state",), [7, 0, 0, 0, 1, 10, 10] + [number for call in FULL[1:] for number in call[1:]])
+        links = [(0, 1), (2, 3), (4, 5), (1, 2), (3, 4), (5, 0), (0, 6), (1, 6), (2, 6), (3, 6)]
+        self.check(net(7, links) + [("stand", 0, 3)], ("can", 0), [1])
+        self.check(net(7, links) + [("stand", 1, 4)], ("found", 2), [3, 1, 0, 2])
+
+    def test_six_places_that_never_meet(self):
+        links = [(0, 4), (1, 3), (2, 5), (3, 0), (2, 1), (4, 5), (1, 4), (5, 0), (2, 3)]
+        self.check(net(6, links) + [("stand", 0, 3)], ("found", 0), [-33])
+        self.check(net(6, links) + [("stand", 0, 1)], ("can", 0), [0])
+        self.check(net(6, links), ("near", 0, 1), [1, 1, 2])
+        self.check(net(6, links), ("same", 0, 3), [6, 3, 4, 5, 0, 1, 2])
+
+    def test_six_places_that_swallow(self):
+        links = [(0, 1), (0, 2), (0, 3), (0, 4), (0, 5), (1, 2), (2, 3), (3, 4), (4, 5), (5, 1)]
+        self.check(net(6, links), ("soonest", 0), [8, 1, 2, 3, 4, 5])
+        self.check(net(6, links), ("mean", 0), [28, 1, 2, 3, 4, 5])
+
+    def test_five_places_with_a_pebble(self):
+        links = [(u, v) for u in range(5) for v in range(u + 1, 5)]
+        self.check(net(5, links), ("pebble", 4, 4), [-6])
+        self.check(ring(5), ("pebble", 2, 3), [2, 3, 3])
 
 
 class NothingChangedOrKept(unittest.TestCase):
@@ -119,35 +158,14 @@ class NothingChangedOrKept(unittest.TestCase):
 
     def test_nothing_has_begun_the_second_time(self):
         answers(numbers_of(net(3, [(0, 1)])))
-        self.assertEqual(ask([("exits", 0), ("back",)]), [[-61], [-61]])
+        self.assertEqual(ask([("exits", 0), ("back",), ("state",)]), [[-61], [-61], [-61]])
 
     def test_what_is_given_back_is_the_callers(self):
-        calls = numbers_of(net(3, [(0, 1)]) + [("exits", 0), ("classes",)])
+        calls = numbers_of(net(3, [(0, 1), (1, 2)]) + [("exits", 0), ("classes",), ("soonest", 0), ("state",)])
         told = answers(calls)
         copy = list(told)
         told.clear()
         self.assertEqual(answers(calls), copy)
-
-
-class TakenBack(unittest.TestCase):
-    ASKED = [("looks", 0), ("looks", 1), ("classes",), ("take",), ("put",)]
-
-    def test_taken_back_all_is_as_it_was(self):
-        source = random.Random(3)
-        for row in range(200):
-            calls = random_calls(source, 30)
-            asked = [("exits", place) for place in range(7)] + self.ASKED
-            change = random_calls(source, 2)[1]
-            if change[0] in ("begin", "back"):
-                continue
-            before = ask(calls + asked)[len(calls):]
-            with_back = ask(calls + [change, ("back",)] + asked)
-            without = ask(calls + [("back",)] + asked)
-            is_change = change[0] in ("link", "unlink", "stand", "step", "put", "take")
-            if is_change and with_back[len(calls)][0] >= 0:
-                self.assertEqual(with_back[len(calls) + 2:], before, calls + [change])
-            else:
-                self.assertEqual(with_back[len(calls) + 1:], without[len(calls):], calls + [change])
 
 
 if __name__ == "__main__":

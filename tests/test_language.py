@@ -1,6 +1,7 @@
 """The package keeps to the part of Python it is to be written in, as far as a look at its files can tell."""
 
 import ast
+import builtins
 import pathlib
 import re
 import unittest
@@ -119,6 +120,30 @@ class Language(unittest.TestCase):
             for node in ast.walk(tree):
                 if isinstance(node, ast.Name):
                     self.assertIn(node.id, sorted(names) + BUILTINS, file)
+
+    def test_each_name_once_and_none_of_pythons_own(self):
+        for file, text, tree in each():
+            imports = [alias.name for node in tree.body if isinstance(node, ast.ImportFrom) for alias in node.names]
+            top = imports + [node.name for node in tree.body if isinstance(node, (ast.FunctionDef, ast.ClassDef))]
+            top += [node.targets[0].id for node in tree.body if isinstance(node, ast.Assign)]
+            self.assertEqual(sorted(top), sorted(set(top)), file)
+            classes = [node.name for node in tree.body if isinstance(node, ast.ClassDef)]
+            for function in [node for node in ast.walk(tree) if isinstance(node, ast.FunctionDef)]:
+                own = [node.arg for node in ast.walk(function) if isinstance(node, ast.arg)]
+                own += [node.id for node in ast.walk(function) if isinstance(node, ast.Name)
+                        and isinstance(node.ctx, ast.Store)]
+                out = imports + classes + dir(builtins)
+                self.assertEqual([name for name in own if name in out], [], (file, function.name))
+
+    def test_no_two_files_draw_from_one_another(self):
+        drawn = {}
+        for file, text, tree in each():
+            drawn[file] = [node.module.split(".")[1] + ".py" for node in tree.body if isinstance(node, ast.ImportFrom)]
+        for file in drawn:
+            beyond = list(drawn[file])
+            for other in beyond:
+                beyond.extend(name for name in drawn[other] if name not in beyond)
+            self.assertNotIn(file, beyond)
 
     def test_methods(self):
         own = set()
